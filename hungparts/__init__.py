@@ -1,0 +1,1 @@
+"""Hungparts: changing the parts of a table while sessions go on."""

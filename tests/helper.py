@@ -1,0 +1,142 @@
+"""What several tests need: values of every kind of [7], small catalogs, and a check of exceptions."""
+
+import itertools
+import unittest
+
+from hungparts import errors
+from hungparts.catalogs import Catalog
+
+# The most that an integer of thirty digits can be.
+BIG = 10 ** 30 - 1
+
+# The fields of the exceptions, as the interface lists them; None for those without one.
+FIELDS = {
+    "InvalidName": "value",
+    "InvalidKey": "value",
+    "InvalidSpan": "value",
+    "InvalidSpans": "value",
+    "InvalidCatalog": "value",
+    "InvalidChange": "value",
+    "InvalidModes": "value",
+    "InvalidClash": "value",
+    "InvalidStrengths": "value",
+    "InvalidProgram": "value",
+    "InvalidPrograms": "value",
+    "InvalidProtocol": "value",
+    "InvalidRows": "value",
+    "InvalidSession": "value",
+    "InvalidNumber": "value",
+    "InvalidWeaving": "value",
+    "InvalidStore": "value",
+    "InvalidScene": "value",
+    "InvalidLog": "value",
+    "InvalidText": "value",
+    "InvalidCommand": "value",
+    "Duplicate": "name",
+    "UnknownPart": "name",
+    "UnknownMode": "name",
+    "UnknownEntry": "name",
+    "NameTaken": "name",
+    "Overlap": "name",
+    "NotInside": "at",
+    "NotNeighbours": "name",
+    "NoProgram": "kind",
+    "TooMany": "bound",
+    "Ended": "number",
+    "Waiting": "number",
+    "NothingBad": None,
+    "NotRight": None,
+    "NoStore": None,
+    "NothingToUndo": None,
+    "NothingToRedo": None,
+}
+
+INTEGERS = [0, 1, -1, 7, 255, BIG, -BIG]
+NAMES = ["a", "z", "ab", "abcdefgh", "zzzzzzzz", "rest", "empty", "tables", "tabl"]
+SPANS = [(None, None), (None, 0), (0, None), (0, 1), (-1, 0), (-7, -5), (-BIG, BIG), (BIG - 1, BIG)]
+NO_SPANS = [
+    (), (0,), (0, 1, 2), (0, 0), (1, 0), (-5, -7), (BIG, -BIG),
+    (True, 5), (0, True), (False, 5), (None, False), (True, None), (False, True),
+    ("0", "1"), (0, "1"), ("", ""), (None, "a"), ((), ()), ((0, 1), 2), ([0], [1]), (None, [1]), ({}, None),
+    [0, 1], [None, None], [0, None], {0: 1}, "..", "0..1",
+]
+NO_NAMES = [
+    "", "table", "abcdefghi", "a" * 200, "A", "aB", "a1", "1", "a b", " a", "a ", "a\n", "\na", "\n", "a_b", "a-b",
+    "`", "{", "a{", "`a", "a.", ".", "-1", "0", "a;b", ["a"], ("a",), {"a": 1},
+]
+
+
+def nested(levels):
+    """A list, a tuple and a dict that are nested so deep."""
+    row, pair, table = "a", 1, (0, 1)
+    for _ in range(levels):
+        row, pair, table = [row], (pair, "a"), {"a": table}
+    return [row, pair, table]
+
+
+def objects():
+    """Objects of the package, new ones at each call."""
+    return [Catalog(), Catalog({"a": (0, 1)}, rest="b"), errors.InvalidName("a"), errors.PartsError()]
+
+
+def others():
+    """Values of every kind that are neither integers nor names nor spans."""
+    return [
+        None, True, False, [], {}, [0, 1, 2], ["a", "b"], {"a": (0, 1)}, {1: "a"}, [None], (None,), ("a", "b"),
+        *NO_SPANS, *NO_NAMES, *objects(), objects(), tuple(objects()), *nested(1), *nested(8),
+    ]
+
+
+def every_value():
+    """Values of every kind of [7]."""
+    return [*INTEGERS, *NAMES, *SPANS, *others()]
+
+
+def small_spans():
+    """All spans whose limits are None or from 0 to 3."""
+    limits = [None, 0, 1, 2, 3]
+    pairs = itertools.product(limits, limits)
+    return [(low, high) for low, high in pairs if low is None or high is None or low < high]
+
+
+def keys_of(span, keys):
+    """Those of some keys that a span has by [2]."""
+    low, high = span
+    return [key for key in keys if (low is None or low <= key) and (high is None or key < high)]
+
+
+# All keys that small spans tell apart, and one more at both ends.
+SMALL_KEYS = list(range(-2, 6))
+
+
+def small_books():
+    """The spans and the rest part, as they may be passed to Catalog, of many small catalogs."""
+    books = []
+    for many in range(4):
+        for spans in itertools.permutations(small_spans(), many):
+            keys = [key for span in spans for key in keys_of(span, SMALL_KEYS)]
+            if len(keys) == len(set(keys)):
+                for rest in (None, "aa", "rest"):
+                    books.append((dict(zip("bac", spans)), rest))
+    return books
+
+
+class Case(unittest.TestCase):
+    """A test case that also checks which exception a call raises, and what its field has."""
+
+    def assert_error(self, name, told, call, *args, **named):
+        """A call raises just the exception with this name, and its only field has what is told."""
+        kind = getattr(errors, name)
+        with self.assertRaises(errors.PartsError) as caught:
+            call(*args, **named)
+        self.assertIs(type(caught.exception), kind)
+        self.assertEqual(list(vars(caught.exception)), [FIELDS[name]])
+        self.assert_same(getattr(caught.exception, FIELDS[name]), told)
+
+    def assert_same(self, got, told):
+        """Strings and integers are equal and of one type, all other values are the very same object."""
+        if isinstance(told, (int, str)):
+            self.assertIs(type(got), type(told))
+            self.assertEqual(got, told)
+        else:
+            self.assertIs(got, told)
