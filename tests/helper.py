@@ -5,6 +5,8 @@ import unittest
 
 from hungparts import errors
 from hungparts.catalogs import Catalog
+from hungparts.protocols import Rulebook, read_protocol
+from hungparts.strengths import Strengths, standard
 
 # The most that an integer of thirty digits can be.
 BIG = 10 ** 30 - 1
@@ -76,7 +78,15 @@ def nested(levels):
 
 def objects():
     """Objects of the package, new ones at each call."""
-    return [Catalog(), Catalog({"a": (0, 1)}, rest="b"), errors.InvalidName("a"), errors.PartsError()]
+    return [
+        Catalog(), Catalog({"a": (0, 1)}, rest="b"), errors.InvalidName("a"), errors.PartsError(),
+        Strengths(["a"], []), Rulebook(Strengths(["a"], []), {}), rules("take: close"),
+    ]
+
+
+def rules(*lines):
+    """The protocol with the standard strengths and with the programs that some lines tell."""
+    return read_protocol("\n".join([str(standard()), *lines]))
 
 
 def others():
