@@ -5,8 +5,10 @@ import unittest
 
 from hungparts import errors
 from hungparts.catalogs import Catalog
-from hungparts.protocols import Rulebook, read_protocol
+from hungparts.protocols import Rulebook, plain_protocol, read_protocol
+from hungparts.store import Store
 from hungparts.strengths import Strengths, standard
+from hungparts.versions import Heap
 
 # The most that an integer of thirty digits can be.
 BIG = 10 ** 30 - 1
@@ -53,6 +55,7 @@ FIELDS = {
     "NothingToRedo": None,
 }
 
+KINDS = ["put", "strike", "read", "direct", "hang", "take", "split", "join"]
 INTEGERS = [0, 1, -1, 7, 255, BIG, -BIG]
 NAMES = ["a", "z", "ab", "abcdefgh", "zzzzzzzz", "rest", "empty", "tables", "tabl"]
 SPANS = [(None, None), (None, 0), (0, None), (0, 1), (-1, 0), (-7, -5), (-BIG, BIG), (BIG - 1, BIG)]
@@ -80,13 +83,32 @@ def objects():
     """Objects of the package, new ones at each call."""
     return [
         Catalog(), Catalog({"a": (0, 1)}, rest="b"), errors.InvalidName("a"), errors.PartsError(),
-        Strengths(["a"], []), Rulebook(Strengths(["a"], []), {}), rules("take: close"),
+        Strengths(["a"], []), Rulebook(Strengths(["a"], []), {}), rules("take: close"), Heap(), Heap({"a": [1]}),
+        Store(plain_protocol(), Catalog()),
     ]
 
 
 def rules(*lines):
-    """The protocol with the standard strengths and with the programs that some lines tell."""
-    return read_protocol("\n".join([str(standard()), *lines]))
+    """The protocol with the standard strengths and with the programs that some lines tell, in any order."""
+    ordered = sorted(lines, key=lambda line: KINDS.index(line.partition(":")[0]))
+    return read_protocol("\n".join([str(standard()), *ordered]))
+
+
+def observed(store):
+    """All that a store tells, but for its state and the order of versions."""
+    numbers = range(len(store))
+    ways = [
+        store.asked, store.outcome, store.next_step, store.at_hand, store.told, store.due, store.locks, store.can,
+    ]
+    running = store.running()
+    parts = store.parts()
+    things = ["table", *parts, *store.catalog.names()]
+    return [
+        str(store.catalog), store.edition, len(store), parts, running, store.settled(),
+        [[way(number) for way in ways] for number in numbers], [store.waits_for(number) for number in running],
+        [[store.alive(part), sorted(map(str, store.versions(part)))] for part in parts],
+        [store.holders(thing) for thing in things],
+    ]
 
 
 def others():
@@ -150,3 +172,20 @@ class Case(unittest.TestCase):
             self.assertEqual(got, told)
         else:
             self.assertIs(got, told)
+
+    def assert_exact(self, read, write, texts, signs):
+        """Texts with a character more or less are none, or just those of what is read from them."""
+        for text in texts:
+            for at in range(len(text) + 1):
+                self.assert_exact_text(read, write, text[:at] + text[at + 1:])
+                for sign in signs:
+                    self.assert_exact_text(read, write, text[:at] + sign + text[at:])
+
+    def assert_exact_text(self, read, write, text):
+        """A string is no text, or just that of what is read from it."""
+        try:
+            value = read(text)
+        except errors.InvalidText as error:
+            self.assertEqual(error.value, text)
+        else:
+            self.assertEqual(write(value), text)

@@ -4,7 +4,6 @@ import itertools
 import unittest
 
 from hungparts.catalogs import Catalog, read_catalog
-from hungparts.errors import InvalidText
 from tests.helper import BIG, Case, every_value, small_books
 
 TEXTS = {
@@ -107,20 +106,7 @@ class TestTexts(Case):
             self.assert_error("InvalidText", text, read_catalog, text)
 
     def test_a_character_too_many_or_too_few(self):
-        for text in TEXTS:
-            for at in range(len(text) + 1):
-                self.check_same(text[:at] + text[at + 1:])
-                for sign in " ;.-0az\n":
-                    self.check_same(text[:at] + sign + text[at:])
-
-    def check_same(self, text):
-        """A string is no text, or that of the catalog which is read from it."""
-        try:
-            catalog = read_catalog(text)
-        except InvalidText as error:
-            self.assertEqual(error.value, text)
-        else:
-            self.assertEqual(str(catalog), text)
+        self.assert_exact(read_catalog, str, TEXTS, " ;.-0az\n")
 
 
 if __name__ == "__main__":

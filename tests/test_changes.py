@@ -7,7 +7,7 @@ from hungparts import changes
 from hungparts.catalogs import Catalog, read_catalog
 from hungparts.changes import carry, changed, fits, is_change, moved, reverse, roles, way_between
 from tests.helper import (
-    BIG, INTEGERS, NAMES, NO_NAMES, SMALL_KEYS, SPANS, Case, every_value, keys_of, others, small_books,
+    BIG, INTEGERS, NAMES, SMALL_KEYS, SPANS, Case, every_value, keys_of, others, small_books,
 )
 
 FUNCTIONS = ["is_change", "roles", "changed", "fits", "reverse", "moved", "carry", "way_between"]
@@ -214,7 +214,8 @@ class TestChanged(Case):
             self.assertEqual(reverse(book, ("split", "a", 5, "b", "c")), ("join", "b", "c", "a"))
 
     def test_a_split_at_a_limit_or_beyond(self):
-        for text, keys in {"a 4..6": [3, 4, 6, 7], "a 4..": [3, 4, -BIG], "a ..6": [6, 7, BIG], "a 4..5": [4, 5]}.items():
+        for text, keys in {"a 4..6": [3, 4, 6, 7], "a 4..": [3, 4, -BIG], "a ..6": [6, 7, BIG], "a 4..5": [4,
+            5]}.items():
             for at in keys:
                 self.assert_error("NotInside", at, changed, read_catalog(text), ("split", "a", at, "b", "c"))
 
@@ -227,7 +228,8 @@ class TestChanged(Case):
             self.assertEqual(reverse(book, ("join", "a", "b", "c")), ("split", "c", 5, "a", "b"))
 
     def test_a_join_of_parts_that_are_no_neighbours(self):
-        for text in ("a 0..5; b 6..7", "a 5..6; b 0..5", "a 5..; b ..5", "a 5..; b ..3", "a ..5; b 6..", "a 5..6; b ..5"):
+        for text in ("a 0..5; b 6..7", "a 5..6; b 0..5", "a 5..; b ..5", "a 5..; b ..3", "a ..5; b 6..",
+            "a 5..6; b ..5"):
             self.assert_error("NotNeighbours", "b", changed, read_catalog(text), ("join", "a", "b", "c"))
 
     def test_a_rest_part_is_no_old_part(self):

@@ -5,9 +5,8 @@ import unittest
 
 from hungparts import programs
 from hungparts.programs import is_program, is_step
-from tests.helper import NAMES, NO_NAMES, Case, every_value, others
+from tests.helper import KINDS, NAMES, NO_NAMES, Case, every_value, others
 
-KINDS = ["put", "strike", "read", "direct", "hang", "take", "split", "join"]
 CHANGES = ["hang", "take", "split", "join"]
 
 # The kinds that may have each step, as [51] lists them; of a lock without its mode.
@@ -67,8 +66,8 @@ LONG = {
         "key, claim, end", "border, put, end",
     ],
     "hang": [
-        "lock new m, scan rest, lock rest m, scan new, lock table m, switch, wait, lock new m, wait, lock rest m, wait, "
-        "end", "scan new, close", "scan rest, close", "scan new, scan rest, switch, end", "switch, wait, end",
+        "lock new m, scan rest, lock rest m, scan new, lock table m, switch, wait, lock new m, wait, lock rest m, "
+        "wait, end", "scan new, close", "scan rest, close", "scan new, scan rest, switch, end", "switch, wait, end",
         "switch, lock new m, end", "lock table m, lock new m, lock rest m, scan new, scan rest, close",
     ],
     "take": [
@@ -104,7 +103,8 @@ BROKEN = {
         "look, view, read", "view, read, end", "look, read, end", "look, view, end", "look, look, view, read, end",
         "look, view, view, read, end", "look, view, read, read, end", "look, read, view, end", "view, read, look, end",
         "look, view, read, again, end", "lock part m, look, view, read, end", "again, look, view, read, end",
-        "view, again, look, read, end", "look, view, end, read", "look, view, read, end, end", "end, look, view, read, end",
+        "view, again, look, read, end", "look, view, end, read", "look, view, read, end, end",
+        "end, look, view, read, end",
         "view, lock part m, look, read, end", "read, look, view, end", "view, look, view, read, end",
     ],
     "direct": [
@@ -116,7 +116,8 @@ BROKEN = {
         "end", "switch", "switch, close", "close, end", "close, close", "switch, switch, end", "close, switch, end",
         "switch, end, end", "end, switch, end", "end, close", "switch, end, close", "wait, close", "wait, switch, end",
         "wait, switch, wait, end", "switch, scan new, end", "switch, scan rest, end", "scan new, scan new, close",
-        "scan rest, scan rest, close", "scan new, switch, scan new, end", "scan new, end", "close, wait", "close, scan new",
+        "scan rest, scan rest, close", "scan new, switch, scan new, end", "scan new, end", "close, wait",
+        "close, scan new",
         "scan new, switch", "close, lock table m", "lock table m", "scan new, wait, close",
     ],
     "take": [
@@ -125,13 +126,15 @@ BROKEN = {
     ],
     "split": [
         "close", "switch, end", "move, end", "move", "move, switch", "move, move, close", "switch, move, end",
-        "move, switch, move, end", "move, switch, switch, end", "move, switch, close", "move, close, end", "close, move",
+        "move, switch, move, end", "move, switch, switch, end", "move, switch, close", "move, close, end",
+        "close, move",
         "move, wait, close", "wait, move, switch, end", "move, wait, switch, end", "move, switch, end, end", "end",
         "move, end, switch, end", "move, close, close",
     ],
     "join": [
         "close", "switch, end", "move, end", "move", "move, switch", "move, move, close", "switch, move, end",
-        "move, switch, move, end", "move, switch, switch, end", "move, switch, close", "move, close, end", "close, move",
+        "move, switch, move, end", "move, switch, switch, end", "move, switch, close", "move, close, end",
+        "close, move",
         "move, wait, close", "wait, move, switch, end", "move, wait, switch, end", "end", "move, close, close",
     ],
 }
@@ -204,7 +207,8 @@ class TestSteps(Case):
             right = whole(step)
             for kind in kinds:
                 for wrong in (
-                    list(right), (*right, "m"), (*right, None), right[:-1], right[1:], (right,), [right], " ".join(right),
+                    list(right), (*right, "m"), (*right, None), right[:-1], right[1:], (right,), [right],
+                    " ".join(right),
                     (" ".join(right),), dict(enumerate(right)), (right[0].upper(), *right[1:]), (*right, "m", "n"),
                 ):
                     self.assertIs(is_step(wrong, kind), wrong == right, wrong)

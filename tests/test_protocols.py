@@ -4,17 +4,15 @@ import itertools
 import unittest
 
 from hungparts import protocols
-from hungparts.errors import InvalidText
 from hungparts.programs import is_program
 from hungparts.protocols import Rulebook, places, plain_protocol, read_protocol, weaker_protocol, with_mode
 from hungparts.strengths import Strengths, read_strengths, standard
-from tests.helper import INTEGERS, Case, every_value, rules
+from tests.helper import INTEGERS, KINDS, Case, every_value, rules
 
 METHODS = [
     "__init__", "strengths", "kinds", "program", "with_program", "without_step", "__eq__", "__str__",
 ]
 FUNCTIONS = ["Rulebook", "weaker_protocol", "places", "with_mode", "read_protocol", "plain_protocol"]
-KINDS = ["put", "strike", "read", "direct", "hang", "take", "split", "join"]
 PUT = [("look",), ("lock", "table", "write"), ("claim",), ("end",)]
 TAKE = [("lock", "table", "alone"), ("close",)]
 
@@ -283,9 +281,12 @@ class TestPlaces(Case):
     def test_places_that_are_none(self):
         protocol = plain_protocol()
         wrong = [
-            ("put", 0), ("put", 2), ("put", -1), ("put", 5), ("put", True), ("take", False), ("put", "1"), ("put", None),
-            ["put", 1], ("put",), ("put", 1, 1), (1, "put"), ("Put", 1), ("end", 1), ("lock", 1), (None, 1), (["put"], 1),
-            {"put": 1}, "put 1", (("put", 1),), [("put", 1)], ("hang", 3), ("hang", True), ("hang", False), ("split", True),
+            ("put", 0), ("put", 2), ("put", -1), ("put", 5), ("put", True), ("take", False), ("put", "1"), ("put",
+                None),
+            ["put", 1], ("put",), ("put", 1, 1), (1, "put"), ("Put", 1), ("end", 1), ("lock", 1), (None, 1), (["put"],
+                1),
+            {"put": 1}, "put 1", (("put", 1),), [("put", 1)], ("hang", 3), ("hang", True), ("hang", False), ("split",
+                True),
         ]
         for value in [*every_value(), *wrong]:
             self.assert_error("InvalidNumber", value, with_mode, protocol, value, "read")
@@ -364,19 +365,22 @@ class TestWeaker(Case):
 
 HEAD = "a b: a!b"
 NO_TEXTS = [
-    "", " ", "\n", HEAD + "\n", "\n" + HEAD, HEAD + " ", "put: look, put, end", HEAD + "\n\ntake: close", "a a", "a: b!b",
+    "", " ", "\n", HEAD + "\n", "\n" + HEAD, HEAD + " ", "put: look, put, end", HEAD + "\n\ntake: close", "a a",
+    "a: b!b",
     # A line feed at the end, and lines that are none.
     HEAD + "\ntake: close\n", HEAD + "\ntake: close\n\n", HEAD + "\n take: close", HEAD + "\ntake: close ",
     HEAD + "\ntake", HEAD + "\ntake:", HEAD + "\ntake: ", HEAD + "\nclose", HEAD + "\n: close", HEAD + "\ntake close",
     # Kinds in another order, twice, or none.
-    HEAD + "\ntake: close\nhang: close", HEAD + "\ntake: close\ntake: close", HEAD + "\ntake: close\nput: look, put, end",
+    HEAD + "\ntake: close\nhang: close", HEAD + "\ntake: close\ntake: close",
+    HEAD + "\ntake: close\nput: look, put, end",
     HEAD + "\ntake: close\ntake: switch, end", HEAD + "\nTake: close", HEAD + "\ntable: close", HEAD + "\nend: close",
     # A comma, a colon or a space too many or too few.
     HEAD + "\ntake:close", HEAD + "\ntake:  close", HEAD + "\ntake : close", HEAD + "\ntake: close,",
     HEAD + "\ntake: close, ", HEAD + "\ntake: , close", HEAD + "\ntake: switch end", HEAD + "\ntake: switch,end",
     HEAD + "\ntake: switch,  end", HEAD + "\ntake: switch , end", HEAD + "\ntake: switch,, end",
     HEAD + "\ntake: switch, , end", HEAD + "\ntake: lock  table a, close", HEAD + "\ntake: lock table  a, close",
-    HEAD + "\ntake: lock table a , close", HEAD + "\ntake: : close", HEAD + "\ntake: take: close", HEAD + ", take: close",
+    HEAD + "\ntake: lock table a , close", HEAD + "\ntake: : close", HEAD + "\ntake: take: close",
+    HEAD + ", take: close",
     # Programs that are none, and modes that the strengths do not have.
     HEAD + "\ntake: end", HEAD + "\nput: close", HEAD + "\ntake: close, close", HEAD + "\ntake: lock table c, close",
     HEAD + "\ntake: lock table, close", HEAD + "\ntake: lock new a, close", HEAD + "\nput: put, look, end",
@@ -437,19 +441,7 @@ class TestTexts(Case):
 
     def test_a_character_too_many_or_too_few(self):
         text = "a b: a!b\nput: look, lock part a, put, end\ntake: close"
-        for at in range(len(text) + 1):
-            self.check_same(text[:at] + text[at + 1:])
-            for sign in " ,:!ab\n":
-                self.check_same(text[:at] + sign + text[at:])
-
-    def check_same(self, text):
-        """A string is no text, or that of the protocol which is read from it."""
-        try:
-            protocol = read_protocol(text)
-        except InvalidText as error:
-            self.assertEqual(error.value, text)
-        else:
-            self.assertEqual(str(protocol), text)
+        self.assert_exact(read_protocol, str, [text], " ,:!ab\n")
 
 
 if __name__ == "__main__":

@@ -4,7 +4,6 @@ import itertools
 import unittest
 
 from hungparts import strengths
-from hungparts.errors import InvalidText
 from hungparts.strengths import Strengths, read_strengths, standard
 from tests.helper import INTEGERS, NAMES, SPANS, Case, every_value, others
 
@@ -51,7 +50,8 @@ class TestInterface(Case):
         self.assertEqual(read_strengths(text="a b: a!b"), known)
 
     def test_the_examples_of_the_document(self):
-        found = [standard().weaker("read", "write"), standard().weaker("share", "write"), standard().steps_down("alone")]
+        found = [standard().weaker("read", "write"), standard().weaker("share", "write"),
+            standard().steps_down("alone")]
         self.assertEqual(found, [True, False, ["write", "share"]])
         known = Strengths(["read", "write"], [("read", "write"), ("write", "write")])
         self.assertEqual(str(known), "read write: read!write write!write")
@@ -307,20 +307,7 @@ class TestTexts(Case):
                 self.assert_error("InvalidText", value, read_strengths, value)
 
     def test_a_character_too_many_or_too_few(self):
-        for text in TEXTS:
-            for at in range(len(text) + 1):
-                self.check_same(text[:at] + text[at + 1:])
-                for sign in " :!ab\n":
-                    self.check_same(text[:at] + sign + text[at:])
-
-    def check_same(self, text):
-        """A string is no text, or that of the strengths which are read from it."""
-        try:
-            known = read_strengths(text)
-        except InvalidText as error:
-            self.assertEqual(error.value, text)
-        else:
-            self.assertEqual(str(known), text)
+        self.assert_exact(read_strengths, str, TEXTS, " :!ab\n")
 
 
 if __name__ == "__main__":
