@@ -92,6 +92,12 @@ class Stand:
         other.sessions = list(self.sessions)
         return other
 
+    def state(self):
+        """Return a tuple that tells all that matters of how the store stands."""
+        # The stretches tell the span of each part but the rest part.
+        book = (self.book.rest, *self.book.stretches())
+        return (self.age, book, self.heap.listed(), tuple([session.state(self.age) for session in self.sessions]))
+
     def settled_now(self):
         """Return the ascending list of the sessions that are settled."""
         return [session.number for session in self.sessions if session.is_settled()]

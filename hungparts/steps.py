@@ -15,6 +15,12 @@ def sessions_ahead(stand, number):
     return sorted(set(found))
 
 
+def ready_now(stand):
+    """Return the ascending list of the sessions that run and whose next step is possible now."""
+    running = [session.number for session in stand.sessions if session.runs()]
+    return [number for number in running if len(sessions_ahead(stand, number)) == 0]
+
+
 def changes_ahead(stand, session):
     """Return the changes that have to end before a change does its first step."""
     if session.place > 0 or not is_change(session.wish):

@@ -3,6 +3,7 @@
 from hungparts.errors import InvalidNumber, InvalidStore, InvalidText, InvalidWeaving
 from hungparts.programs import step_text
 from hungparts.sessions import is_session, read_number, read_session, session_text
+from hungparts.steps import ready_now
 from hungparts.store import Store
 from hungparts.words import is_integer
 
@@ -38,7 +39,7 @@ def made_turn(store, turn):
 def ready(store):
     """Return the ascending list of the sessions that run and whose next step is possible now."""
     require_store(store)
-    return [number for number in store.running() if store.can(number)]
+    return ready_now(store.stand)
 
 
 def is_over(store):

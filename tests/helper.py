@@ -4,7 +4,8 @@ import itertools
 import unittest
 
 from hungparts import errors
-from hungparts.catalogs import Catalog
+from hungparts.catalogs import Catalog, read_catalog
+from hungparts.changes import roles
 from hungparts.protocols import Rulebook, plain_protocol, read_protocol
 from hungparts.store import Store
 from hungparts.strengths import Strengths, standard
@@ -109,6 +110,49 @@ def observed(store):
         [[store.alive(part), sorted(map(str, store.versions(part)))] for part in parts],
         [store.holders(thing) for thing in things],
     ]
+
+
+def opened(protocol, text, sessions=(), rows=None):
+    """A store with the catalog of a text, in which some sessions have begun."""
+    store = Store(protocol, read_catalog(text), rows)
+    for asked in sessions:
+        store.begin(asked)
+    return store
+
+
+# Programs without a single step that makes anything safe.
+BARE = (
+    "put: look, put, end", "strike: look, strike, end", "read: look, view, read, end", "direct: put, end",
+    "hang: close", "take: close", "split: move, switch, end", "join: move, close",
+)
+
+
+def rows_now(store):
+    """The tuples (part, key) of all alive rows in the parts of the current catalog."""
+    return [(part, key) for part in store.catalog.names() for key in store.alive(part)]
+
+
+def events_by_words(before, after, number):
+    """The events of a step by the words of [91], told from the store before the step and from that behind it."""
+    step, asked = before.next_step(number), after.asked(number)
+    outside, twice = [], []
+    for store in (before, after):
+        rows = rows_now(store)
+        outside.append({key for part, key in rows if store.catalog.part_of(key) != part})
+        twice.append({key for _, key in rows if len([other for _, other in rows if other == key]) > 1})
+    found = [("outside", key) for key in sorted(outside[1] - outside[0])]
+    found += [("twice", key) for key in sorted(twice[1] - twice[0])]
+    if step[0] in ("switch", "close") and asked[0] in ("split", "join") and after.edition > before.edition:
+        found += [("lost", key) for key in sorted({key for part in roles(asked)[0] for key in after.alive(part)})]
+    here = after.at_hand(number)
+    given = after.catalog.part_of(asked[1]) if asked[0] in ("put", "strike") else None
+    if asked[0] == "put" and after.outcome(number) == "done" and here != given:
+        found.append(("missed", asked[1]))
+    if step == ("strike",) and here != given:
+        found.append(("astray", asked[1]))
+    if step == ("read",) and after.told(number) != after.due(number):
+        found.append(("unseen", asked[1]))
+    return [(*event, number) for event in found]
 
 
 def others():
