@@ -27,8 +27,12 @@ def watched_step(stand, number):
     found = [wrong for wrong in after if wrong not in before]
     if word in ("switch", "close") and session.switched:
         found.extend([("lost", key) for key in left_behind(stand, session)])
-    if goes_wrong(stand, session, word, result):
-        found.append((WRONGS[session.wish[0]], session.key()))
+    if session.wish[0] == "put" and result == "done" and is_elsewhere(stand, session):
+        found.append(("missed", session.key()))
+    if word == "strike" and is_elsewhere(stand, session):
+        found.append(("astray", session.key()))
+    if word == "read" and session.answer != session.duty:
+        found.append(("unseen", session.key()))
     return [(kind, key, number) for kind, key in found]
 
 
@@ -41,16 +45,6 @@ def left_behind(stand, session):
     return sorted(set([key for part in old for key in stand.heap.alive(part, settled)]))
 
 
-# What can go wrong with a session itself.
-WRONGS = {"put": "missed", "strike": "astray", "read": "unseen"}
-
-
-def goes_wrong(stand, session, word, result):
-    """Tell whether the step that a session has just done has the event of its kind."""
-    kind = session.wish[0]
-    if kind == "read":
-        return word == "read" and session.answer != session.duty
-    # A put is missed where it is done, and a strike is astray where it strikes, in a part that does not get the key.
-    if (kind == "put" and result == "done") or (kind == "strike" and word == "strike"):
-        return stand.book.part_of(session.key()) != session.part
-    return False
+def is_elsewhere(stand, session):
+    """Tell whether the part at hand of a session is not the one that gets its key."""
+    return stand.book.part_of(session.key()) != session.part

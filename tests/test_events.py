@@ -48,6 +48,17 @@ class TestKindsOfEvents(unittest.TestCase):
         self.assert_last([], [("hang", "d", (20, 30)), 0], {"d": [25]})
         self.assert_last([], [("hang", "d", (20, 30)), 0], {"e": [5, 25]})
 
+    def test_outside_and_twice_at_a_switch(self):
+        protocol = rules("hang: switch, wait, end", "split: move, switch, end", "direct: put, end")
+        told = [("outside", 21, 0), ("outside", 25, 0), ("twice", 25, 0)]
+        turns = [("hang", "d", (20, 30)), 0]
+        self.assert_last(told, turns, {"c": [25, 21], "d": [25]}, protocol=protocol)
+        # They do not come again at the end.
+        self.assertEqual(watched([*turns, 0, 0], {"c": [25, 21], "d": [25]}, protocol=protocol)[1:], [told, [], []])
+        turns = [("split", "a", 5, "d", "e"), 0, ("direct", "d", 7), 1, 1, ("direct", "d", 3), 2, 2, 0]
+        told = [("outside", 7, 0), ("twice", 3, 0)]
+        self.assert_last(told, turns, {"a": [3]}, protocol=protocol)
+
     def test_outside_in_the_order_of_the_keys(self):
         told = [("outside", key, 0) for key in (-35, -25, 2, 25, 30)]
         rows = {"c": [30, -25], "d": [2, 25, -35, 45]}

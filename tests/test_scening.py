@@ -149,9 +149,9 @@ class TestScenesDecide(unittest.TestCase):
 
     def test_protocols_that_need_all_their_steps(self):
         rng = random.Random(114)
-        for _ in range(30):
+        for _ in range(20):
             protocol = self.weakened(rng.choice([plain_protocol(), read_protocol("\n".join(PARTS))]), rng)
-            for scene in large_scenes(protocol.kinds(), rng, 60):
+            for scene in large_scenes(protocol.kinds(), rng, 40):
                 self.assertIsNone(shortest(protocol, scene), (str(protocol), str(scene[0]), scene[1:]))
 
     def test_longer_weavings(self):
@@ -181,6 +181,8 @@ class TestScenesDecide(unittest.TestCase):
         for text in (
                 "put: look, put, end", "put: look, key, put, end", "direct: border, put, end", "direct: claim, end",
                 "direct: border, key, put, end", "put: look, claim, end\ndirect: border, key, put, end",
+                "put: look, lock table alone, key, put, end\ndirect: lock part alone, border, key, put, end",
+                "direct: border, lock part read, claim, end\njoin: lock new alone, lock old alone, move, close",
                 "hang: scan new, close", "hang: scan rest, close", "put: look, claim, end\ntake: close",
                 "put: look, lock part write, claim, end\ntake: lock old alone, close",
                 "put: look, lock part write, again, claim, end\nhang: lock new alone, scan new, scan rest, close",
@@ -208,8 +210,10 @@ class TestScenesDecide(unittest.TestCase):
     def test_protocols_that_lack_nothing(self):
         for text in (
                 "", "put: look, claim, end", "direct: border, claim, end", "hang: scan new, scan rest, close",
-                "put: look, claim, end\ndirect: border, claim, end",
-                "strike: look, strike, end\nread: look, view, read, end", "take: close\nsplit: move, close\njoin: move, close",
+                "put: look, claim, end\ndirect: border, claim, end", "put: look, lock table alone, key, put, end",
+                "direct: lock part alone, border, key, put, end",
+                "strike: look, strike, end\nread: look, view, read, end",
+                "take: close\nsplit: move, close\njoin: move, close",
                 "put: look, lock part write, again, claim, end\ntake: lock old alone, close",
                 "put: look, lock table read, again, claim, end\nhang: lock table alone, scan new, scan rest, close",
                 "strike: look, lock table read, again, strike, end\nhang: lock table alone, scan new, scan rest, close",
@@ -271,7 +275,8 @@ class TestTexts(Case):
                 "a ..10;rest c\nbegin take a", "rest c; a ..10\nbegin take a", "b 0..1; a 1..2\nbegin take a",
                 # Rows.
                 "empty\na:3\nbegin put 3", "empty\na: \nbegin put 3", "empty\na:\nbegin put 3",
-                "empty\na: 03\nbegin put 3", "empty\na: 3 \nbegin put 3", "empty\na:  3\nbegin put 3", "empty\na : 3\nbegin put 3",
+                "empty\na: 03\nbegin put 3", "empty\na: 3 \nbegin put 3", "empty\na:  3\nbegin put 3",
+                "empty\na : 3\nbegin put 3",
                 "empty\na: 3 3\nbegin put 3", "empty\na: 3 4\nbegin put 3", "empty\na: 3\na: 3\nbegin put 3",
                 "empty\nb: 3\na: 3\nbegin put 3", "empty\nA: 3\nbegin put 3", "empty\ntable: 3\nbegin put 3",
                 "empty\n: 3\nbegin put 3", "empty\na: 4\nbegin put 3", "empty\na: 3\nb: 4\nbegin take a",
