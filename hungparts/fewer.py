@@ -15,7 +15,11 @@ MOST_SESSIONS = 2
 
 def kept(store, weaving, numbers):
     """Return the last attempts of some sessions of a weaving alone."""
-    turns = last_attempts(store, weaving)
+    return chosen_turns(last_attempts(store, weaving), numbers)
+
+
+def chosen_turns(turns, numbers):
+    """Return the turns of some sessions of a weaving, and raise InvalidNumber if these are none of its sessions."""
     if not is_choice(numbers, len(sessions_of(turns))):
         raise InvalidNumber(numbers)
     return turns_of(turns, numbers)
@@ -71,6 +75,7 @@ def struck_down(store, weaving):
     turns = last_attempts(store, weaving)
     key = first_key(store, weaving)
     books = books_behind(store, weaving)
+    # By [101], one of these goes wrong.
     for numbers in small_choices(sessions_of(turns), key):
         few = turns_of(turns, numbers)
         for start in small_starts(store.protocol, books, key, sessions_of(few)):
@@ -129,6 +134,6 @@ def starts(store, weaving, numbers):
     """Go through the stores from which some sessions of a weaving may go wrong."""
     turns = last_attempts(store, weaving)
     key = first_key(store, weaving)
-    sessions = sessions_of(kept(store, weaving, numbers))
+    sessions = sessions_of(chosen_turns(turns, numbers))
     for start in small_starts(store.protocol, books_behind(store, weaving), key, sessions):
         yield start

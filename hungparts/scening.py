@@ -7,9 +7,9 @@ from hungparts.scenes import is_scene, require_scene
 from hungparts.sessions import read_number
 from hungparts.weavings import read_turn, turn_text
 
-# Where something can go wrong with a key, it can do so in one of these scenes with the key 0. All changes in them fit:
-# those that do not only let others wait. Parts and rows that are not there cannot let anybody wait or be refused, so
-# there are no more of them than what goes wrong needs.
+# Where something can go wrong with a key, it can do so in one of these scenes with the key 0. All changes in them fit,
+# since one that does not fit only lets others wait. Parts and rows that are not there cannot let anybody wait or be
+# refused, so there are no more of them than what goes wrong needs.
 SCENES = (
     # One session alone, beside a row that it may put a second time, move, or find in a part that ought not to have it.
     "a ..\na: 0\nbegin put 0",
